@@ -528,12 +528,13 @@ func TestAtDeskIsOfTheLastHopAlone(t *testing.T) {
 	}
 }
 
-// A route has a Line between a text and what was read of it.
+// A route has a Line between a text and what was read of it. A careful one says Done only where it may.
 type route struct {
 	l       impl.Line
 	text    string
 	written int64
 	read    string
+	careful bool
 }
 
 func (r *route) writes(n int64) {
@@ -562,6 +563,10 @@ func (r *route) roadOf(k int64, seed *steps) int64 {
 	return seed.below(int64(len(r.l.Roads)))
 }
 
+func (r *route) saysDone(k int64, seed *steps) bool {
+	return seed.below(2) == 0 && (!r.careful || impl.MayTell(r.l, k))
+}
+
 // does takes a step that keeps to the roads that are there.
 func (r *route) does(seed *steps) {
 	k := seed.below(3)
@@ -575,7 +580,7 @@ func (r *route) does(seed *steps) {
 	case 2, 3:
 		r.l.Hops[k], _ = impl.Sends(h, road, h.Giver.Base+seed.below(int64(len(h.Giver.Bytes))+1), seed.below(41))
 	case 4:
-		r.l.Hops[k], _ = impl.Tells(h, road, seed.below(2) == 0)
+		r.l.Hops[k], _ = impl.Tells(h, road, r.saysDone(k, seed))
 	case 5, 6, 7:
 		r.l.Hops[k], _ = impl.Arrives(h, letter)
 	case 8:
